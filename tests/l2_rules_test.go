@@ -266,18 +266,24 @@ func TestParseRuleOnChangedLines(t *testing.T) {
 	for _, line := range []string{
 		"3 table rank 5 second by majority", "20 abcdefghij rank 9 second debate amend by two-thirds", "1 by rank 0 by all", "12 second rank 1 debate amend by majority",
 	} {
-		for i := range len(line) {
-			checkParseRule(t, line[:i])
-			checkParseRule(t, line[i:])
-			checkParseRule(t, line[:i]+line[i+1:])
-			for c := range 256 {
-				sign := string([]byte{byte(c)})
-				checkParseRule(t, line[:i]+sign+line[i+1:])
-				checkParseRule(t, line[:i]+sign+line[i:])
-			}
-		}
+		eachChange(line, func(s string) { checkParseRule(t, s) })
 		checkParseRule(t, line+line)
 		checkParseRule(t, line+"\n"+line)
+	}
+}
+
+// eachChange calls visit with s cut off on either side at every place, and with every byte left
+// out, replaced by any other one and preceded by any one.
+func eachChange(s string, visit func(string)) {
+	for i := range len(s) {
+		visit(s[:i])
+		visit(s[i:])
+		visit(s[:i] + s[i+1:])
+		for c := range 256 {
+			sign := string([]byte{byte(c)})
+			visit(s[:i] + sign + s[i+1:])
+			visit(s[:i] + sign + s[i:])
+		}
 	}
 }
 
