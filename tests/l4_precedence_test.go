@@ -329,6 +329,20 @@ func checkAddPair(t *testing.T, p impl.Precedence, low int, high int) {
 	}
 }
 
+// checkNoRanksAndNoOrder checks what is not said of a Precedence that is not valid or not sound.
+func checkNoRanksAndNoOrder(t *testing.T, name string, p impl.Precedence) {
+	t.Helper()
+	if got, ok := impl.RanksOf(p); ok || len(got) != 0 {
+		t.Error("RanksOf:", name, got)
+	}
+	if got, ok := impl.NeedlessPairs(p); ok || len(got) != 0 {
+		t.Error("NeedlessPairs:", name, got)
+	}
+	if got, ok := impl.OrderKinds(p); ok || len(got) != 0 {
+		t.Error("OrderKinds:", name, got)
+	}
+}
+
 func TestConstantsOfPrecedence(t *testing.T) {
 	if impl.MaxKinds != 8 || impl.MaxPairs != 16 {
 		t.Error("constants", impl.MaxKinds, impl.MaxPairs)
@@ -639,15 +653,7 @@ func TestWithACycleThereAreNoRanksAndNoOrder(t *testing.T) {
 	for _, p := range []impl.Precedence{
 		precedenceOf(2, [2]int{0, 1}, [2]int{1, 0}), ringOf(3), ringOf(8), twoCycles(), precedenceOf(8, [2]int{6, 7}, [2]int{7, 6}),
 	} {
-		if got, ok := impl.RanksOf(p); ok || len(got) != 0 {
-			t.Errorf("RanksOf(%v) = %v", p, got)
-		}
-		if got, ok := impl.NeedlessPairs(p); ok || len(got) != 0 {
-			t.Errorf("NeedlessPairs(%v) = %v", p, got)
-		}
-		if got, ok := impl.OrderKinds(p); ok || len(got) != 0 {
-			t.Errorf("OrderKinds(%v) = %v", p, got)
-		}
+		checkNoRanksAndNoOrder(t, fmt.Sprint(p), p)
 		// No pair makes it sound again.
 		for _, pair := range allPairs(p.Kinds) {
 			if got, ok := impl.AddPair(p, pair[0], pair[1]); ok || got.Kinds != 0 || len(got.Over) != 0 {
@@ -711,15 +717,7 @@ func TestInvalidPrecedences(t *testing.T) {
 		if got, ok := impl.ShortestCycle(p); ok || len(got) != 0 {
 			t.Error("ShortestCycle:", name, got)
 		}
-		if got, ok := impl.RanksOf(p); ok || len(got) != 0 {
-			t.Error("RanksOf:", name, got)
-		}
-		if got, ok := impl.NeedlessPairs(p); ok || len(got) != 0 {
-			t.Error("NeedlessPairs:", name, got)
-		}
-		if got, ok := impl.OrderKinds(p); ok || len(got) != 0 {
-			t.Error("OrderKinds:", name, got)
-		}
+		checkNoRanksAndNoOrder(t, name, p)
 	}
 }
 
