@@ -114,20 +114,9 @@ func textOfMembers(list []impl.Member) string {
 	return text
 }
 
-// areMemberLines matches the strings that consist of lines of valid Members.
-var areMemberLines = regexp.MustCompile(`\A([1-9][0-9]? [a-z]{1,10}( \((chair|secretary|treasurer)\))?\n)*\z`)
-
-// checkParseMembers checks a string of any form against areMemberLines and textOfMembers.
-func checkParseMembers(t *testing.T, s string) {
-	t.Helper()
-	list, ok := impl.ParseMembers(s)
-	if ok && (!areMemberLines.MatchString(s) || !impl.IsValidMembers(list) || textOfMembers(list) != s) || !ok && len(list) > 0 {
-		t.Errorf("ParseMembers(%.80q) = %v, %v", s, list, ok)
-	}
-	// A single line has no other one with which it could be at odds.
-	if strings.Count(s, "\n") == 1 && ok != areMemberLines.MatchString(s) {
-		t.Errorf("ParseMembers(%.80q) = %v, %v", s, list, ok)
-	}
+var memberForm = textForm[impl.Member]{
+	parse: impl.ParseMembers, isValid: impl.IsValidMembers, textOf: textOfMembers,
+	lines: regexp.MustCompile(`\A([1-9][0-9]? [a-z]{1,10}( \((chair|secretary|treasurer)\))?\n)*\z`),
 }
 
 func TestConstantsOfMembers(t *testing.T) {
@@ -568,10 +557,7 @@ func TestParseMembersInvalid(t *testing.T) {
 		textOfMembers(membersOf(1, 13)), textOfMembers(membersOf(1, 26)), strings.Repeat("\n", 4000), strings.Repeat("\n", 4001), strings.Repeat(" ", 5000),
 		strings.Repeat("1 ada\n", 100), strings.Repeat(fiveMembersText, 2), strings.Repeat(fiveMembersText, 10000), "1 " + strings.Repeat("a", 5000) + "\n",
 	} {
-		if got, ok := impl.ParseMembers(s); ok || len(got) != 0 {
-			t.Errorf("ParseMembers(%.80q) = %v", s, got)
-		}
-		checkParseMembers(t, s)
+		memberForm.checkNone(t, s)
 	}
 }
 
@@ -579,20 +565,15 @@ func TestParseMembersOnChangedText(t *testing.T) {
 	for _, text := range []string{
 		fiveMembersText, "1 a\n", "99 abcdefghij (treasurer)\n", "8 chair (secretary)\n", "1 ada (chair)\n2 bo\n", textOfMembers(membersOf(1, 12)),
 	} {
-		eachChange(text, func(s string) { checkParseMembers(t, s) })
+		eachChange(text, func(s string) { memberForm.check(t, s) })
 	}
-	for i := range len(fiveMembersText) + 1 {
-		ended := i == 0 || fiveMembersText[i-1] == '\n'
-		if got, ok := impl.ParseMembers(fiveMembersText[:i]); ok != ended || !ok && len(got) != 0 {
-			t.Errorf("ParseMembers(%q) = %v, %v", fiveMembersText[:i], got, ok)
-		}
-	}
+	memberForm.checkCuts(t, fiveMembersText)
 }
 
 func TestParseMembersOnSequencesOfWords(t *testing.T) {
 	words := []string{"1", "99", "ada", "chair", "(chair)", "(secretary)", "(treasurer)", ""}
 	for _, word := range words {
-		eachSequence(words, 4, word, func(s string) { checkParseMembers(t, s+"\n") })
+		eachSequence(words, 4, word, func(s string) { memberForm.check(t, s+"\n") })
 	}
 }
 
