@@ -938,11 +938,7 @@ func randomChange(next func(int) int, n int) impl.Amendment {
 func TestLongListsOfProposals(t *testing.T) {
 	sizes, peaceful := [9]int{}, [9]int{}
 	for start := range 4000 {
-		number := start*7919 + 1
-		next := func(n int) int {
-			number = (number*1103515245 + 12345) % (1 << 31)
-			return number >> 8 % n
-		}
+		next := drawsFrom(start)
 		text, list, id := textFrom("w", next(21)), []impl.Proposal{}, 0
 		for range 8 {
 			id += next(12) + 1

@@ -850,11 +850,7 @@ func TestEveryListOfVotesCast(t *testing.T) {
 func TestManyVoters(t *testing.T) {
 	valid := 0
 	for start := range 3000 {
-		number := start*7919 + 1
-		next := func(n int) int {
-			number = (number*1103515245 + 12345) % (1 << 31)
-			return number >> 8 % n
-		}
+		next := drawsFrom(start)
 		to := alone(6 + next(7))
 		for range next(20) {
 			from, other := next(len(to)), next(len(to))

@@ -606,11 +606,10 @@ func randomCall(t *testing.T, f impl.Floor, number int) impl.Floor {
 func TestLongDebates(t *testing.T) {
 	full, heard := 0, 0
 	for start := range 40 {
-		number := start*7919 + 1
+		next := drawsFrom(start)
 		f, _ := impl.NewFloor(start%3+1, 200*(start%18+1))
 		for range 400 {
-			number = (number*1103515245 + 12345) % (1 << 31)
-			f = randomCall(t, f, number>>8)
+			f = randomCall(t, f, next(1<<23))
 			if len(f.Waiting) == 10 {
 				full++
 			}

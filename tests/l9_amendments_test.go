@@ -809,11 +809,7 @@ func TestEveryHistory(t *testing.T) {
 func TestLongHistories(t *testing.T) {
 	applied := [10]int{}
 	for start := range 3000 {
-		number := start*7919 + 1
-		next := func(n int) int {
-			number = (number*1103515245 + 12345) % (1 << 31)
-			return number >> 8 % n
-		}
+		next := drawsFrom(start)
 		text, list := textFrom("w", next(21)), []impl.Amendment{}
 		for range 8 {
 			kind := next(3) + 1
